@@ -4,6 +4,7 @@ import (
 	"slices"
 
 	"supergraph/api"
+	"supergraph/parts"
 	"supergraph/typeref"
 	"supergraph/value"
 )
@@ -14,7 +15,7 @@ func Same(a, b api.Doc) bool { return slices.EqualFunc(a.Defs, b.Defs, sameDefin
 func sameDefinition(a, b api.Def) bool {
 	return a.Kind == b.Kind && a.Name == b.Name &&
 		slices.Equal(a.Implements, b.Implements) &&
-		sameDirectives(a.Dirs, b.Dirs) &&
+		parts.SameDirectives(a.Dirs, b.Dirs) &&
 		slices.EqualFunc(a.Fields, b.Fields, sameField) &&
 		slices.EqualFunc(a.Members, b.Members, sameMember) &&
 		slices.EqualFunc(a.Inputs, b.Inputs, sameInput)
@@ -23,21 +24,15 @@ func sameDefinition(a, b api.Def) bool {
 func sameField(a, b api.Field) bool {
 	return a.Name == b.Name && typeref.Same(a.Type, b.Type) &&
 		slices.EqualFunc(a.Args, b.Args, sameInput) &&
-		sameDirectives(a.Dirs, b.Dirs)
+		parts.SameDirectives(a.Dirs, b.Dirs)
 }
 
 func sameInput(a, b api.Input) bool {
 	return a.Name == b.Name && typeref.Same(a.Type, b.Type) &&
 		a.Has == b.Has && value.Same(a.Default, b.Default) &&
-		sameDirectives(a.Dirs, b.Dirs)
+		parts.SameDirectives(a.Dirs, b.Dirs)
 }
 
-func sameMember(a, b api.Member) bool { return a.Name == b.Name && sameDirectives(a.Dirs, b.Dirs) }
-
-func sameDirectives(a, b []api.Dir) bool { return slices.EqualFunc(a, b, sameDirective) }
-
-func sameDirective(a, b api.Dir) bool {
-	return a.Name == b.Name && slices.EqualFunc(a.Args, b.Args, sameArgument)
+func sameMember(a, b api.Member) bool {
+	return a.Name == b.Name && parts.SameDirectives(a.Dirs, b.Dirs)
 }
-
-func sameArgument(a, b api.Arg) bool { return a.Name == b.Name && value.Same(a.Value, b.Value) }
