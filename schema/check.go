@@ -105,10 +105,11 @@ func (c *checker) checkName(p position, isTaken bool) {
 }
 
 func (c *checker) checkType(p position, name string) {
-	i, isDefined := c.first[name]
-	if !isDefined {
-		c.report(!Scalar(name), api.ErrNone, p)
+	// The name of a scalar type means this type also where a definition has taken it, which rule 1 reports.
+	if Scalar(name) {
 		return
 	}
-	c.report(!p.accepts(name, c.defs[i].Kind), api.ErrType, p)
+	i, isDefined := c.first[name]
+	c.report(!isDefined, api.ErrNone, p)
+	c.report(isDefined && !p.accepts(c.defs[i].Kind), api.ErrType, p)
 }

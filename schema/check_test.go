@@ -66,14 +66,33 @@ func TestCheckDefinedScalars(t *testing.T) {
 	for _, name := range scalars() {
 		checkText(t, "type "+name+" { x: Int }", "Twice "+name)
 		checkText(t, "enum "+name+" { X } enum "+name+" { X } type A { x: "+name+" }", "Twice "+name+", Twice "+name)
-		// The definition does not change what the name is as the type of an argument or input field.
-		checkText(t, "type A { x(a: "+name+"): B } type B { x: Int } type "+name+" { x: B } input I { a: "+name+" }", "Twice "+name)
-		checkText(t, "input "+name+" { x: Int } type A { y(a: "+name+"): A }", "Twice "+name)
 	}
 	checkText(t, "type Float { x: Int }", "")
-	// As the type of a field, the name is one of an input type (DInput).
-	checkText(t, "input ID { x: Int } type A { x: ID y: Int }", "Twice ID, Type A.x")
-	checkText(t, "enum ID { X } input ID { x: Int } type A { x: ID }", "Twice ID, Twice ID")
+}
+
+// A definition with the name of a scalar type does not change what the name is as a type of a part: it
+// fits everywhere, before and after the definition, within it, and in all wrappers.
+func TestCheckUsesOfDefinedScalars(t *testing.T) {
+	own := []api.Field{{Name: "y", Type: ref("A")}}
+	members := []api.Member{{Name: "X"}}
+	for _, name := range scalars() {
+		for _, wraps := range [][]int{nil, {api.WNonNull}, {api.WList}, {api.WNonNull, api.WList, api.WNonNull}} {
+			use := input("a", ref(name, wraps...))
+			fields := []api.Field{{Name: "x", Type: use.Type, Args: []api.Input{use}}}
+			before := []api.Def{object("A", fields...), {Kind: api.DInterface, Name: "N", Fields: fields}, inputType("I", use)}
+			after := []api.Def{object("B", fields...), {Kind: api.DInterface, Name: "M", Fields: fields}, inputType("J", use)}
+			for kind := api.DObject; kind <= api.DInput; kind++ {
+				defined := api.Def{Kind: kind, Name: name, Fields: append(own, fields...), Members: members, Inputs: []api.Input{input("b", ref("I"))}}
+				checkFaults(t, doc(slices.Concat(before, []api.Def{defined}, after)...), "Twice "+name)
+			}
+			defined := []api.Def{inputType(name, input("b", ref(name))), inputType(name, input("b", ref("I")))}
+			checkFaults(t, doc(slices.Concat(before, defined, after)...), "Twice "+name+", Twice "+name)
+		}
+	}
+	checkText(t, "type A { x: Int } input Int { y: ID }", "Twice Int")
+	checkFaults(t, doc(api.Def{Kind: api.DObject, Fields: []api.Field{{Type: ref("Int")}}}, inputType("Int")), "Name , Name ., Twice Int, None Int")
+	// Other names that are no scalar types are those of input types.
+	checkText(t, "input Float { x: Int } input int { x: Int } type A { x: Float y: int z: [Float!]! }", "Type A.x, Type A.y, Type A.z")
 }
 
 func TestCheckEmptyDefinitions(t *testing.T) {

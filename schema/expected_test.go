@@ -74,7 +74,7 @@ func (l *expected) definition(d api.Doc, x api.Def) {
 		l.add(!isAllowed(f.Name), 6, at)
 		l.add(slices.ContainsFunc(x.Fields[:i], func(e api.Field) bool { return e.Name == f.Name }), 7, at)
 		l.add(isUnknown(d, f.Type.Name), 8, at)
-		l.add(firstKind(d, f.Type.Name) == 5, 10, at)
+		l.add(!slices.Contains(scalars(), f.Type.Name) && firstKind(d, f.Type.Name) == 5, 10, at)
 		l.inputs(d, f.Args, func(name string) string { return at + "(" + name + ")" })
 	}
 	for i, m := range x.Members {

@@ -41,10 +41,10 @@ func (p position) isNamed() bool {
 	return text.Name(p.name) && !text.Reserved(p.name)
 }
 
-// accepts reports whether what is at p can have a type with this name, whose definition has this kind.
-func (p position) accepts(name string, kind int) bool {
+// accepts reports whether what is at p can have a type whose definition has this kind.
+func (p position) accepts(kind int) bool {
 	if p.kind == ofField {
 		return kind != api.DInput
 	}
-	return isInput(name, kind)
+	return kind == api.DEnum || kind == api.DInput
 }
